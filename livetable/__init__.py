@@ -1,0 +1,1 @@
+"""Lives insured: what payments on one life or two are worth, told in exact fractions."""
