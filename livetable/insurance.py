@@ -1,6 +1,8 @@
 """The calls on one table, one behind another, and what they answer."""
 
-from livetable.payments import Payment, worth
+from livetable.contracts import Contract, Year, gain, paid, premium, reserve
+from livetable.payments import Payment
+from livetable.prospects import worth
 from livetable.refusals import Refusal, TooLong, demand_within
 from livetable.statuses import Status, alive, mean
 from livetable.tables import table_of
@@ -8,9 +10,13 @@ from livetable.tables import table_of
 BEGIN = 0
 ALIVE = 1
 MEAN = 2
+WORTH = 3
+PREMIUM = 4
+RESERVE = 5
+PAID = 6
 
-# By the number of a call that tells a fraction (alive, mean, worth): how many numbers it has.
-NUMBERS = {1: 5, 2: 4, 3: 7}
+# By the number of a call that tells a fraction (alive to gain): how many numbers it has.
+NUMBERS = {1: 5, 2: 4, 3: 7, 4: 8, 5: 9, 6: 9, 7: 13}
 
 LONGEST_TEXT = 4096
 LONGEST_ANSWER = 4096
@@ -88,7 +94,20 @@ class Insurance:
             return alive(status, numbers[3])
         if call == MEAN:
             return mean(status)
-        return worth(status, Payment(numbers[3], numbers[4], numbers[5]))
+        payment = Payment(numbers[3], numbers[4], numbers[5])
+        if call == WORTH:
+            return worth(status, payment)
+        return self.contract_fraction(call, Contract(status, payment, numbers[6]), numbers[7:])
+
+    def contract_fraction(self, call, contract, numbers):
+        """The fraction that a call on a contract asks for; its numbers are those behind the contract's."""
+        if call == PREMIUM:
+            return premium(contract)
+        if call == RESERVE:
+            return reserve(contract, numbers[0])
+        if call == PAID:
+            return paid(contract, numbers[0])
+        return gain(contract, numbers[0], Year(numbers[1], numbers[2], numbers[3], numbers[4]))
 
 
 def answers(calls):

@@ -1,6 +1,5 @@
-"""What's paid, by its kind, and what it is worth."""
+"""What's paid, by its kind."""
 
-from livetable.ratios import Ratio
 from livetable.refusals import demand_within
 
 EACH_BEGINNING = 0
@@ -64,26 +63,3 @@ class Payment:
         if self.kind in (FOR_ITS_END, AFTER_ALL_YEARS_OR_FOR_ITS_END):
             return 1
         return 0
-
-
-def expected(status, payment, when):
-    """What's paid at that time, each amount by the ways in which it is paid."""
-    ways = status.ways(when)
-    total = payment.in_any_case(when) * status.ways(0) + payment.if_there(when) * ways
-    ended = payment.for_its_end(when)
-    if ended > 0:
-        total = total + ended * (status.ways(when - 1) - ways)
-    return total
-
-
-def worth(status, payment):
-    """What's paid is worth at first."""
-    kept = status.table.rate_bottom
-    grown = status.table.rate_top + kept
-    total = 0
-    scale = 1
-    # From the last time back, each step makes all that is later worth a year's interest less.
-    for when in range(payment.last_time(), -1, -1):
-        scale = scale * grown
-        total = total * kept + expected(status, payment, when) * scale
-    return Ratio(total, scale * status.ways(0))

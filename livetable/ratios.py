@@ -21,3 +21,12 @@ class Ratio:
     def text(self):
         """The fraction as it is told: 0/1, 17/8, -3/4."""
         return str(self.top) + "/" + str(self.bottom)
+
+
+def difference(first_top, first_bottom, second_top, second_bottom):
+    """The first fraction less the second; bottoms are above 0."""
+    # What the bottoms share is taken out ahead: it is most of them, and a long product is slow to reduce.
+    shared = common_divisor(first_bottom, second_bottom)
+    first_part = first_bottom // shared
+    second_part = second_bottom // shared
+    return Ratio(first_top * second_part - second_top * first_part, first_part * second_bottom)

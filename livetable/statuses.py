@@ -1,7 +1,7 @@
 """Statuses: one life or two, and the chance that they are there still."""
 
 from livetable.ratios import Ratio
-from livetable.refusals import demand_within
+from livetable.refusals import OutOfRange, demand_within
 
 ONE_LIFE = 0
 TILL_FIRST_DIES = 1
@@ -35,6 +35,21 @@ class Status:
         second_all = self.table.living(self.y)
         neither = (first_all - first) * (second_all - second)
         return first_all * second_all - neither
+
+    def time_gone(self):
+        """After how many years the status can't be there any more."""
+        age = self.x
+        if self.kind == TILL_FIRST_DIES:
+            age = max(self.x, self.y)
+        elif self.kind == TILL_LAST_DIES:
+            age = min(self.x, self.y)
+        return self.table.oldest() + 1 - age
+
+    def demand_there(self, when):
+        """Refuse a time at which the status can't be there."""
+        demand_within(when, 0, LONGEST_TIME)
+        if self.ways(when) == 0:
+            raise OutOfRange()
 
 
 def alive(status, when):

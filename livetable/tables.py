@@ -1,5 +1,6 @@
 """Tables: the yearly interest, and how many live at each age."""
 
+from livetable.ratios import Ratio
 from livetable.refusals import WrongLine, within
 
 MOST_AGES = 120
@@ -13,11 +14,10 @@ DIGIT_NINE = 57
 
 
 class Table:
-    """A yearly interest of rate_top / rate_bottom, and the living by age, from 0 on."""
+    """A yearly interest, and the living by age, from 0 on."""
 
-    def __init__(self, rate_top, rate_bottom, lives):
-        self.rate_top = rate_top
-        self.rate_bottom = rate_bottom
+    def __init__(self, rate, lives):
+        self.rate = rate
         self.lives = lives
 
     def oldest(self):
@@ -35,7 +35,7 @@ def table_of(text):
     """The table that the bytes of a text tell."""
     lines = lines_of(text)
     rate = rate_of(lines[0])
-    return Table(rate[0], rate[1], lives_of(lines[1:]))
+    return Table(rate, lives_of(lines[1:]))
 
 
 def lines_of(text):
@@ -53,7 +53,7 @@ def lines_of(text):
 
 
 def rate_of(line):
-    """The two numbers of a/b, the yearly interest on the first line."""
+    """The yearly interest a/b of the first line."""
     if line.count(SLASH) == 0:
         raise WrongLine(1)
     middle = line.index(SLASH)
@@ -61,7 +61,7 @@ def rate_of(line):
     bottom = number_of(line[middle + 1:], 1, GREATEST_PART)
     if top is None or bottom is None:
         raise WrongLine(1)
-    return (top, bottom)
+    return Ratio(top, bottom)
 
 
 def lives_of(lines):

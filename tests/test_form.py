@@ -31,6 +31,12 @@ BUILT_IN_VALUES = ("", 0, [], (), {}, set(), b"")
 VALUE_NAMES = set("count index title find get join lower upper split strip copy add".split())
 
 
+def own_names(tree):
+    """The names that a file defines at its top."""
+    names = {node.name for node in tree.body if isinstance(node, (ast.FunctionDef, ast.ClassDef))}
+    return names | {node.targets[0].id for node in tree.body if isinstance(node, ast.Assign)}
+
+
 class Form(unittest.TestCase):
     def setUp(self):
         self.files = {path: path.read_text(encoding="utf-8") for path in sorted(PACKAGE.glob("*.py"))}
@@ -82,6 +88,43 @@ class Form(unittest.TestCase):
             self.assertEqual(node.level, 0, place)
             self.assertRegex(node.module, r"^livetable\.[a-z]+$", place)
             self.assertNotIn("*", [alias.name for alias in node.names], place)
+
+    def test_imports_come_from_the_defining_file_and_in_no_ring(self):
+        drawn = {}
+        for path, tree in self.trees.items():
+            rows = [node for node in tree.body if isinstance(node, ast.ImportFrom)]
+            drawn[path.stem] = {row.module.split(".")[1] for row in rows}
+            for row in rows:
+                defined = own_names(self.trees[PACKAGE / (row.module.split(".")[1] + ".py")])
+                self.assertLessEqual({alias.name for alias in row.names}, defined, f"{path.name}:{row.lineno}")
+        while drawn:
+            free = {stem for stem, others in drawn.items() if not others & set(drawn)}
+            self.assertNotEqual(free, set(), drawn)
+            drawn = {stem: others for stem, others in drawn.items() if stem not in free}
+
+    def test_top_of_files(self):
+        for path, tree in self.trees.items():
+            for node in tree.body[1:]:
+                place = f"{path.name}:{node.lineno}"
+                self.assertIsInstance(node, (ast.ImportFrom, ast.Assign, ast.FunctionDef, ast.ClassDef), place)
+                if isinstance(node, ast.Assign):
+                    ast.literal_eval(node.value)
+            self.assertIsNotNone(ast.get_docstring(tree), path.name)
+
+    def test_locals_are_not_called_like_classes_or_imports(self):
+        for path, tree in self.trees.items():
+            taken = {node.name for node in tree.body if isinstance(node, ast.ClassDef)}
+            taken |= {alias.name for node in tree.body if isinstance(node, ast.ImportFrom) for alias in node.names}
+            for node in ast.walk(tree):
+                if isinstance(node, ast.Name) and isinstance(node.ctx, ast.Store):
+                    self.assertNotIn(node.id, taken, f"{path.name}:{node.lineno}")
+                if isinstance(node, ast.arg):
+                    self.assertNotIn(node.arg, taken, f"{path.name}:{node.lineno}")
+
+    def test_powers_have_a_written_exponent(self):
+        for place, node in self.nodes(ast.BinOp):
+            if isinstance(node.op, ast.Pow):
+                self.assertIsInstance(node.right, ast.Constant, place)
 
     def test_names(self):
         for place, node in self.nodes(ast.Name):

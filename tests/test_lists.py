@@ -5,16 +5,35 @@ import io
 import unittest
 
 from livetable.insurance import answers
-from tests.calling import alive, begin, expected_worth, lowest, mean, parted, table_text, told, worth
+from tests.calling import (
+    alive, begin, expected_worth, gain, lowest, mean, paid, parted, premium, reserve, table_text, told, worth,
+)
 
 LIVES = [100, 80, 50, 50, 7]
 TEXT = table_text("5/100", LIVES)
 
-GOOD = [alive(0, 0, 0, 1), mean(1, 0, 1), worth(2, 0, 1, 4, 1, 3), alive(1, 4, 4, 0, 3), worth(0, 0, 9, 6, 0, 2)]
+GOOD = [
+    alive(0, 0, 0, 1), mean(1, 0, 1), worth(2, 0, 1, 4, 1, 3), premium(0, 0, 0, 3, 0, 5, 2),
+    reserve(1, 0, 1, 5, 1, 2, 3, 2), paid(2, 0, 1, 6, 0, 9, 1, 1), gain(0, 1, 0, 4, 0, 2, 2, 1, 9, 4, 1, 3),
+    alive(1, 4, 4, 0, 3), worth(0, 0, 9, 6, 0, 2), reserve(0, 0, 0, 0, 0, 1, 3, 1),
+]
 REFUSED = [
     (alive(0, 5, 0, 1), -2), (mean(3, 0, 0), -2), (worth(0, 0, 0, 7, 0, 0), -2), (alive(0, 0, 0, 1, 2), -1),
     (mean(0, 0, 0, -1), -2), (worth(0, 0, 0, 0, 0, 1, 0), -1), (alive(0, 0, 0, 241), -2),
+    (premium(0, 0, 0, 3, 0, 5, 0), -2), (premium(0, 0, 0, 3, 0, 5, 2, 2), -1), (reserve(0, 0, 0, 3, 0, 5, 2, 5), -2),
+    (reserve(0, 0, 0, 3, 0, 5, 2, 0, 2), -1), (paid(0, 0, 0, 2, 0, 1, 1, 2), -2), (paid(0, 0, 0, 2, 0, 3, 1, 2, 2), -1),
+    (gain(0, 0, 0, 3, 0, 5, 2, 4, 1, 1, 1, 1), -2), (gain(0, 0, 0, 3, 0, 5, 2, 0, 0, 0, 1, 1, 2), -1),
 ]
+
+
+class ReadOnly(list):
+    """A list that may be read but not changed, not for a while either."""
+
+    def refuse(self, *numbers, **names):
+        raise AssertionError("what was handed in is changed")
+
+    append = extend = insert = remove = pop = clear = sort = reverse = refuse
+    __setitem__ = __delitem__ = __iadd__ = __imul__ = refuse
 
 
 def joined(calls):
@@ -25,6 +44,17 @@ class Lists(unittest.TestCase):
     def test_numbers_given_back(self):
         calls = joined([begin("5/100\n4\n3"), alive(0, 0, 0, 1), alive(0, 2, 0, 1), mean(0, 0, 0, 2), mean(0, 1, 0)])
         self.assertEqual(answers(calls), [1, 0, 4, 3, 51, 47, 52, 1, -2, 1, -1, 4, 3, 48, 47, 49])
+
+    def test_numbers_of_all_calls_given_back(self):
+        # 1/2, 1/2, 3/8 as worth and as premium for one year, 1/2 after a year, all of it paid up, and -1/4.
+        calls = joined([
+            begin("1/1\n4\n2"), alive(0, 0, 0, 1), mean(0, 0, 0), worth(0, 0, 0, 3, 0, 2), premium(0, 0, 0, 3, 0, 2, 1),
+            reserve(0, 0, 0, 3, 0, 2, 1, 1), paid(0, 0, 0, 3, 0, 2, 1, 1), gain(0, 0, 0, 3, 0, 2, 1, 0, 1, 1, 1, 1),
+        ])
+        self.assertEqual(answers(calls), [
+            1, 0, 4, 3, 49, 47, 50, 4, 3, 49, 47, 50, 4, 3, 51, 47, 56, 4, 3, 51, 47, 56, 4, 3, 49, 47, 50,
+            4, 3, 49, 47, 49, 5, 4, 45, 49, 47, 52,
+        ])
 
     def test_refused_begin_alone(self):
         self.assertEqual(answers(begin("5/100")), [1, -102])
@@ -50,9 +80,21 @@ class Lists(unittest.TestCase):
         self.assertEqual(answers(calls), first)
         self.assertEqual(calls, before)
 
+    def test_what_is_handed_in_is_only_read(self):
+        calls = joined([begin(TEXT)] + GOOD + [refused for refused, number in REFUSED])
+        self.assertEqual(answers(ReadOnly(calls)), answers(calls))
+
+    def test_each_call_alone_as_in_a_row(self):
+        together = parted(answers(joined([begin(TEXT)] + GOOD)))
+        backwards = parted(answers(joined([begin(TEXT)] + GOOD[::-1])))
+        self.assertEqual(backwards[1:], together[:0:-1])
+        for call, answer in zip(GOOD, together[1:]):
+            self.assertEqual(parted(answers(begin(TEXT) + call)), [[0], answer])
+
     def test_nothing_is_kept(self):
-        first = joined([begin(TEXT), mean(0, 0, 0)])
-        other = joined([begin("0/1\n5\n5"), mean(0, 0, 0)])
+        asked = [mean(0, 0, 0), premium(0, 0, 0, 3, 0, 2, 2), reserve(0, 0, 0, 3, 0, 2, 2, 1)]
+        first = joined([begin(TEXT)] + asked)
+        other = joined([begin("0/1\n5\n5")] + asked)
         awaited = answers(other)
         alone = answers(first)
         self.assertEqual(answers(other), awaited)

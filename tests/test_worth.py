@@ -2,7 +2,7 @@
 
 import unittest
 
-from tests.calling import GREATEST, LEAST, ask, expected_worth, lowest, table_text, worth
+from tests.calling import GREATEST, LEAST, agree, ask, expected_worth, lowest, table_text, worth
 
 LIVES = [100, 80, 50, 50, 7]
 TEXT = table_text("5/100", LIVES)
@@ -10,11 +10,7 @@ TEXT = table_text("5/100", LIVES)
 
 class Worths(unittest.TestCase):
     def agree(self, interest, lives, cases):
-        for start in range(0, len(cases), 200):
-            some = cases[start:start + 200]
-            given = ask(table_text(interest, lives), *[worth(*case) for case in some])
-            for case, text in zip(some, given):
-                self.assertEqual(text, lowest(expected_worth(interest, lives, *case)), (interest, case))
+        agree(self, interest, lives, worth, expected_worth, cases)
 
     def test_by_hand(self):
         # Of 4 live 2 a year later, then none; 1 a year from now is worth 1/2.
